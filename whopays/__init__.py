@@ -1,0 +1,1 @@
+"""Who can pay whom, when all owe one another."""
