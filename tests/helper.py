@@ -26,6 +26,24 @@ CLEAR = [3]
 LEAST = [4]
 
 
+def pays(i):
+    return [5, i]
+
+
+def need(i):
+    return [6, i]
+
+
+NEEDS = [7]
+
+
+def without(i):
+    return [8, i]
+
+
+LOST = [9]
+
+
 def line(*calls):
     return [number for call in calls for number in call]
 
@@ -74,6 +92,29 @@ def read_least(numbers, n):
     return numbers[0], told[0::2], told[1::2]
 
 
+def read_for_each(numbers, n):
+    """What pays or needs tells: a fraction for each party."""
+    assert numbers[0] == n and len(numbers) == 1 + 2 * n, numbers
+    return pairs(numbers[1:])
+
+
+def read_need(numbers):
+    assert len(numbers) == 2, numbers
+    return pairs(numbers)[0]
+
+
+def read_without(numbers):
+    """The parties, of which none comes twice and each is behind the one before."""
+    assert numbers[0] == len(numbers) - 1 and numbers[1:] == sorted(set(numbers[1:])), numbers
+    return numbers[1:]
+
+
+def read_lost(numbers):
+    """(what is lost in falling, what isn't paid)"""
+    assert len(numbers) == 4, numbers
+    return tuple(pairs(numbers))
+
+
 class Model:
     """A house, reckoned by fractions straight from the words of the document."""
 
@@ -118,12 +159,17 @@ class Model:
     def worth(self, pays):
         return [max(self.means(pays, i) - self.debts[i], Fraction(0)) for i in range(self.n)]
 
-    def with_fallen(self, fallen):
-        """The payments by which just these pay as the fallen do; None if there isn't just one such."""
+    def with_fallen(self, fallen, silent=None):
+        """The payments by which just these pay as the fallen do; None if there isn't just one such.
+
+        The silent one, if there is one, pays nothing.
+        """
         rows = []
         for i in range(self.n):
             row = [Fraction(int(i == j)) for j in range(self.n)]
-            if i in fallen:
+            if i == silent:
+                row.append(Fraction(0))
+            elif i in fallen:
                 for j in range(self.n):
                     if self.debts[j] > 0:
                         row[j] -= self.kept_paid * self.owed[j][i] / self.debts[j]
@@ -141,6 +187,27 @@ class Model:
             if pays is not None and min(pays) >= 0 and self.can_be(pays):
                 found.append(pays)
         return found
+
+    def greatest(self):
+        """The greatest of all payments that can be, found by waves only where they may be without number."""
+        if self.kept_paid == 1:
+            return self.waves()[1]
+        return greatest_of(self.all_that_can_be())
+
+    def greatest_without(self, silent):
+        """The greatest payments if one pays nobody anything; for kept of paid below 1."""
+        found = []
+        for chosen in product([False, True], repeat=self.n):
+            told = self.with_fallen([i for i in range(self.n) if chosen[i]], silent)
+            others = [i for i in range(self.n) if i != silent]
+            if min(told) >= 0 and all(told[i] == self.due(told, i) for i in others):
+                found.append(told)
+        return greatest_of(found)
+
+    def with_more(self, more):
+        """The same house, in which each has so much more of its own."""
+        owned = [value + extra for value, extra in zip(self.owned, more)]
+        return Model(self.kept_own.as_integer_ratio(), self.kept_paid.as_integer_ratio(), owned, self.owed)
 
     def on_grid(self, step):
         """All payments that can be among the multiples of the step."""
@@ -160,6 +227,23 @@ class Model:
             for i in falling:
                 wave[i] = number
             pays = self.with_fallen([i for i in range(self.n) if wave[i] > 0])
+
+
+def greatest_of(found):
+    """The one among the payments by which each pays as much as by any other."""
+    most = [max(column) for column in zip(*found)]
+    assert most in found, found
+    return most
+
+
+def drawn(source, n, kept_own, kept_paid, most_own, most_owed, filled, below=1):
+    """A house drawn from the source, in which about one debt in `filled` is above 0."""
+    owned = [Fraction(source.randint(0, most_own), source.randint(1, below)) for i in range(n)]
+    owed = [[Fraction(0)] * n for i in range(n)]
+    for i, j in product(range(n), range(n)):
+        if i != j and source.randrange(filled) == 0:
+            owed[i][j] = Fraction(source.randint(1, most_owed), source.randint(1, below))
+    return Model(kept_own, kept_paid, owned, owed)
 
 
 def eliminated(rows):

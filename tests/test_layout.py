@@ -3,16 +3,36 @@
 import builtins
 import contextlib
 import io
+import random
 import unittest
 from unittest import mock
 
-from tests.helper import CLEAR, HALF, LEAST, ask, begins, line, owes, own
+from tests.helper import CLEAR, HALF, LEAST, LOST, NEEDS, ask, begins, last, line, need, owes, own, pays, without
 from whopays.house import answers
+
+MOST = 1000000
 
 BUSY = line(
     begins(3, HALF, HALF), own(0, 4), owes(0, 1, 10), owes(1, 2, 6), owes(2, 1, 5), CLEAR, LEAST,
-    own(9, 1), begins(0), CLEAR, begins(2), owes(1, 0, 3), CLEAR, LEAST,
+    pays(0), need(1), NEEDS, without(2), LOST, pays(3), need(3), without(3),
+    own(9, 1), begins(0), CLEAR, begins(2), owes(1, 0, 3), CLEAR, LEAST, LOST, without(0), NEEDS, need(1), pays(1),
 )
+
+CHANGES = (0, 1, 2)
+
+
+def drawn_calls(source, count):
+    """Calls of all ten kinds, drawn from the source; some of them are refused."""
+    calls = []
+    for k in range(count):
+        i = source.randint(0, 4)
+        amount = [source.randint(0, 9), source.randint(0, 4)]
+        calls.append(source.choice([
+            begins(source.randint(2, 5), (source.randint(0, 3), 3), (source.randint(0, 3), 3)), own(i, *amount),
+            owes(i, source.randint(0, 4), *amount), owes(i, source.randint(0, 4), *amount),
+            CLEAR, LEAST, pays(i), need(i), NEEDS, without(i), LOST,
+        ]))
+    return calls
 
 
 class Layout(unittest.TestCase):
@@ -29,6 +49,51 @@ class Layout(unittest.TestCase):
     def test_refusals_are_one_number_each(self):
         self.assertEqual(answers([0, 0, 1, 1, 1, 1, 1, 1, 0, 1, 2, 0, 0, 1, 1, 4]),
                          [1, -1, 1, -2, 1, -1, 1, -6])
+
+    def test_all_ten_calls(self):
+        calls = [
+            9, 7,
+            0, 3, 1, 2, 1, 2, 1, 0, 4, 1, 2, 0, 1, 10, 1, 2, 1, 2, 7, 2,
+            8, 0, 6, 0, 3, 5, 0, 9, 4, 7, 6, 3,
+            0, 2, 1, 1, 1, 1, 7, 2, 0, 1, 3, 1, 5, 0, 1, 0, 3, 1, 5, 0, 8, 0, 2, 1, 0, 3, 1, 8, 0, 4, 9, 6, 1, 3,
+        ]
+        self.assertEqual(answers(calls), [
+            4, 0, 1, 0, 1,
+            3, 1, 0, 1,
+            1, 3, 1, 0, 1, 0, 1, 0,
+            1, 0,
+            2, 6, 1,
+            16, 2, 1, 2, 0, 2, 1, 0, 1, 1, 1, 0, 1, 0, 1, 1, 1,
+            7, 3, 0, 1, 2, 1, 0, 1,
+            4, 3, 1, 21, 2,
+            13, 2, 2, 1, 0, 1, 1, 1, 0, 1, 0, 1, 1, 1,
+            7, 3, 6, 1, 0, 1, 0, 1,
+            1, -2,
+            1, 2,
+            5, 2, 0, 1, 0, 1,
+            1, 0,
+            5, 2, 0, 1, 0, 1,
+            1, 0,
+            5, 2, 0, 1, 3, 1,
+            1, 0,
+            1, 0,
+            2, 1, 1,
+            1, -6,
+            4, 0, 1, 0, 1,
+            2, 0, 1,
+            11, 0, 0, 0, 3, 1, 3, 1, 3, 1, 0, 1,
+        ])
+
+    def test_any_order(self):
+        """Each question is answered as if it alone were asked after what was said before."""
+        source = random.Random(10)
+        for k in range(60):
+            calls = drawn_calls(source, 40)
+            told = ask(*calls)
+            for place, call in enumerate(calls):
+                said = [other for other in calls[:place] if other[0] in CHANGES]
+                with self.subTest(calls=calls, place=place):
+                    self.assertEqual(last(*said, call), told[place])
 
     def test_begins_comes_again(self):
         told = ask(begins(3), CLEAR, begins(1), CLEAR, begins(2), CLEAR)
@@ -59,6 +124,30 @@ class Beginning(unittest.TestCase):
     def test_own(self):
         self.assertEqual(ask(own(0, 6, 4), CLEAR), [[0], [0, 0, 0, 1, 3, 2]])
         self.assertEqual(ask(own(1, 6, 4), CLEAR), [[-2], [0, 0, 0, 1, 0, 1]])
+
+    def test_pays(self):
+        self.assertEqual(answers([5, 0]), [3, 1, 0, 1])
+
+    def test_need(self):
+        self.assertEqual(answers([6, 0]), [2, 0, 1])
+
+    def test_needs(self):
+        self.assertEqual(answers([7]), [3, 1, 0, 1])
+
+    def test_without(self):
+        self.assertEqual(answers([8, 0]), [1, 0])
+
+    def test_lost(self):
+        self.assertEqual(answers([9]), [4, 0, 1, 0, 1])
+
+    def test_there_is_but_one_party(self):
+        for i in (1, 2, 8, MOST):
+            with self.subTest(i=i):
+                self.assertEqual(answers([5, i, 6, i, 8, i]), [1, -2] * 3)
+
+    def test_with_something_of_its_own(self):
+        self.assertEqual(answers([1, 0, 6, 4, 5, 0, 6, 0, 7, 8, 0, 9]),
+                         [1, 0, 3, 1, 0, 1, 2, 0, 1, 3, 1, 0, 1, 1, 0, 4, 0, 1, 0, 1])
 
     def test_owes(self):
         self.assertEqual(ask(owes(0, 0, 1)), [[-1]])

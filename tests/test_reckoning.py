@@ -5,7 +5,7 @@ import unittest
 from fractions import Fraction
 from itertools import product
 
-from tests.helper import CLEAR, LEAST, Model, ask, read_clear, read_least
+from tests.helper import CLEAR, LEAST, Model, ask, drawn, read_clear, read_least
 
 KEPT = [(0, 1), (1, 3), (1, 2), (1, 1)]
 KEPT_BELOW_1 = [(0, 1), (1, 3), (1, 2), (4, 5)]
@@ -16,16 +16,6 @@ def all_pairs():
     for kept_own, kept_paid in product(KEPT, KEPT):
         for first, second, there, back in product(range(4), range(4), range(4), range(4)):
             yield Model(kept_own, kept_paid, [first, second], [[0, there], [back, 0]])
-
-
-def drawn(source, n, kept_own, kept_paid, most_own, most_owed, filled, below=1):
-    """A house drawn from the source, in which about one debt in `filled` is above 0."""
-    owned = [Fraction(source.randint(0, most_own), source.randint(1, below)) for i in range(n)]
-    owed = [[Fraction(0)] * n for i in range(n)]
-    for i, j in product(range(n), range(n)):
-        if i != j and source.randrange(filled) == 0:
-            owed[i][j] = Fraction(source.randint(1, most_owed), source.randint(1, below))
-    return Model(kept_own, kept_paid, owned, owed)
 
 
 class Reckoning(unittest.TestCase):

@@ -9,6 +9,11 @@ def greatest_payments(sheet):
     return sink(sheet, [False] * sheet.parties, can_pay)
 
 
+def greatest_payments_if_safe(sheet, i):
+    """The greatest payments if party i pays all it owes, whatever its means are."""
+    return sink(sheet, [j == i for j in range(sheet.parties)], can_pay)
+
+
 def least_payments(sheet):
     """The least payments that can be; what is kept of what is paid must be less than 1.
 

@@ -26,6 +26,24 @@ class Payments:
         self.fell = fell
 
 
+def sheet_without(house, i):
+    """The sheet of the house if party i had nothing and paid nobody.
+
+    Whoever owes nothing pays nothing and can't fall, so for the others it is all one whether party i doesn't pay or
+    doesn't owe.
+    """
+    sheet = Sheet(house)
+    sheet.own[i] = 0
+    sheet.owed[i] = [0] * sheet.parties
+    sheet.debts[i] = 0
+    return sheet
+
+
+def all_paid(sheet):
+    """The payments by which all pay all they owe."""
+    return Payments(1, [1] * sheet.parties, [0] * sheet.parties)
+
+
 def unit_of(house):
     """A number that every number below a line in the house divides."""
     unit = 1
@@ -52,6 +70,22 @@ def means(sheet, payments, i):
 def surplus(sheet, payments, i):
     """The means of party i less all it owes, counted in 1 / (unit * below); below 0 if it can't pay."""
     return means(sheet, payments, i) - sheet.debts[i] * payments.below
+
+
+def lack(sheet, payments, i):
+    """What party i's means fall short of all it owes, counted in 1 / (unit * below); 0 if it can pay."""
+    return max(0 - surplus(sheet, payments, i), 0)
+
+
+def lost_in_falling(sheet, payments):
+    """The means of all that fell less what they pay, counted in 1 / (unit * below)."""
+    fallen = [i for i in range(sheet.parties) if payments.fell[i] > 0]
+    return sum([means(sheet, payments, i) - sheet.debts[i] * payments.above[i] for i in fallen])
+
+
+def left_unpaid(sheet, payments):
+    """All that is owed less all that is paid, counted in 1 / (unit * below)."""
+    return sum([sheet.debts[i] * (payments.below - payments.above[i]) for i in range(sheet.parties)])
 
 
 def can_pay(sheet, payments, i):
